@@ -44,10 +44,14 @@ func settle(x float32) float32 {
 	return 0
 }
 
-// The conversions in sumOf and productOf keep the compiler from fusing a
-// product and a sum into one operation that rounds only once.
+// The conversions in sumOf, differenceOf and productOf keep the compiler from
+// fusing a product and a sum into one operation that rounds only once.
 func sumOf(a float32, b float32) float32 {
 	return settle(float32(a + b))
+}
+
+func differenceOf(a float32, b float32) float32 {
+	return settle(float32(a - b))
 }
 
 func productOf(a float32, b float32) float32 {
