@@ -58,6 +58,10 @@ func productOf(a float32, b float32) float32 {
 	return settle(float32(a * b))
 }
 
+func joinParts(a complex64, b complex64, join func(float32, float32) float32) complex64 {
+	return complex(join(real(a), real(b)), join(imag(a), imag(b)))
+}
+
 func inReach(x float32) bool {
 	return x >= -MaxReach && x <= MaxReach
 }
